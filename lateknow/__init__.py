@@ -1,0 +1,1 @@
+"""Lateknow: deciding before one knows."""
