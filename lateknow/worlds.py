@@ -38,6 +38,13 @@ class Rule:
         """The state to which the rule goes for a wish."""
         return self.standing
 
+    def price_to(self, wish, after):
+        return self.world.price(self.standing, wish, after)
+
+    def learn(self, wish):
+        """Keeps what the rule must know of a wish besides its state: most rules need nothing."""
+        pass
+
     def state(self):
         return self.standing
 
@@ -46,7 +53,8 @@ class Rule:
         if not self.world.is_wish(wish):
             raise NoWish()
         after = self.target(wish)
-        cost = self.world.price(self.standing, wish, after)
+        cost = self.price_to(wish, after)
+        self.learn(wish)
         self.standing = after
         self.spent = self.spent + cost
         return cost

@@ -45,6 +45,23 @@ def tuples_of_no_kind():
     return found
 
 
+def things_of_no_name():
+    """Things that are neither names nor tuples; among the texts such as miss being a name by one sign."""
+    texts = ["A", "Abc", "abC", "a1", "a b", " a", "a ", "a\n", "\na", "a\t", "a-b", "a_b", "a.b", "`", "{", "a`", "{a",
+             "abcdefghi", "a" * 100, "\u00e4", "\u00df", "\u00aa", "\uff41", "a\u0301", "a\x00"]
+    others = [thing for thing in things_of_no_kind() if not (isinstance(thing, str) and thing.isalpha())]
+    return others + texts + [0, 1, -1, BOUND]
+
+
+def tuples_with(things, filling):
+    """For each thing the tuples in which it stands at one place of the filling, or alone at all places."""
+    found = []
+    for thing in things:
+        found.append((thing,) * len(filling))
+        found.extend([filling[:at] + (thing,) + filling[at + 1:] for at in range(len(filling))])
+    return found
+
+
 def check_refusal(test, kind, call, *handed):
     """The call is refused with just this class, under its bases, without a row."""
     with test.assertRaises(LateError) as caught:
@@ -63,6 +80,9 @@ def face_of(rule, states):
     if hasattr(rule, "factor"):
         face.append(rule.factor())
         face.extend([(rule.parts(other), rule.height(other)) for other in states])
+    for name in ("numbers", "pages", "loads"):
+        if hasattr(rule, name):
+            face.append(getattr(rule, name)())
     return face
 
 
@@ -145,3 +165,27 @@ def check_enough_moves(test, world, start, row, states):
         return [pair for pair in pairs if pair[1] is not None]
 
     test.assertEqual(least_over(world, start, row, world.moves), least_over(world, start, row, anywhere))
+
+
+def check_own_lists(test, make, told, wish, ask):
+    """A list that one got is one's own: changing it changes no answer, and no later wish changes it."""
+    rule, twin = make(), make()
+    for early in told:
+        test.assertEqual(rule.pay(early), twin.pay(early))
+    mine, kept, copy = ask(rule), ask(rule), list(ask(rule))
+    test.assertIsInstance(mine, list)
+    mine[:] = ["changed"] * (len(mine) + 1)
+    test.assertEqual((ask(rule), kept), (copy, copy))
+    test.assertEqual(rule.pay(wish), twin.pay(wish))
+    test.assertEqual((ask(rule), rule.state()), (ask(twin), twin.state()))
+    test.assertNotEqual(ask(rule), copy)
+    test.assertEqual(kept, copy)
+
+
+def check_asked_again(test, rule, row, states):
+    """Asking changes nothing: who asks the same again is told the same."""
+    for wish in row:
+        face = face_of(rule, states)
+        test.assertEqual(face_of(rule, states), face)
+        test.assertEqual(face_of(rule, states), face)
+        rule.pay(wish)
