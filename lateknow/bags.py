@@ -45,7 +45,8 @@ class Bags(World):
 
     def moves(self, before, wish):
         # Bags with the same load lead to the same state, so one of them is enough.
-        states = [filled(before, before.index(load), wish) for load in sorted(set(before))]
+        loads = [load for load in sorted(set(before)) if load + wish <= self.room]
+        states = [filled(before, before.index(load), wish) for load in loads]
         return self.priced(before, wish, states + [opened(before, wish)])
 
 

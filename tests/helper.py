@@ -62,8 +62,8 @@ def tuples_with(things, filling):
     return found
 
 
-def check_refusal(test, kind, call, *handed):
-    """The call is refused with just this class, under its bases, without a row."""
+def check_refusal(test, kind, call, *handed, row=None):
+    """The call is refused with just this class, under its bases, with this row: None but of a text."""
     with test.assertRaises(LateError) as caught:
         call(*handed)
     error = caught.exception
@@ -71,7 +71,7 @@ def check_refusal(test, kind, call, *handed):
     test.assertIsInstance(error, ValueError)
     for other in (NoState, NoWish, NoText, TooGreat):
         test.assertEqual(isinstance(error, other), other is kind)
-    test.assertIsNone(error.row)
+    test.assertEqual((error.row, error.row.__class__), (row, row.__class__))
 
 
 def face_of(rule, states):
